@@ -1,0 +1,1 @@
+"""Leastspare: records on a disk that stand any cut, with few spare blocks."""

@@ -1,0 +1,91 @@
+"""Drives: disks with writes that are pending until a sync, and what a cut may leave of them."""
+
+from leastspare.disks import is_block, is_content, is_filling
+from leastspare.errors import InvalidBlock, InvalidContent, InvalidFilling, NotLeft
+from leastspare.limits import check_listed
+
+
+class Drive:
+    """A disk with a filling and pending writes, torn or whole."""
+
+    def __init__(self, disk, filling, *, torn=True):
+        if not is_filling(disk, filling):
+            raise InvalidFilling(filling)
+        self.disk = disk
+        self.torn = torn
+        self._settled = filling
+        self._pending = []
+
+    def write(self, block, content):
+        """Add a write to the pending ones."""
+        if not is_block(self.disk, block):
+            raise InvalidBlock(block)
+        if not is_content(self.disk, content):
+            raise InvalidContent(content)
+        self._pending.append((block, content))
+
+    def sync(self):
+        """Do all pending writes in their order, and return how many they were."""
+        done = len(self._pending)
+        self._settle(self.filling())
+        return done
+
+    def pending(self):
+        """Return the list of the pending writes, in the order in which they were made."""
+        return list(self._pending)
+
+    def settled(self):
+        """Return the filling without the pending writes."""
+        return self._settled
+
+    def filling(self):
+        """Return the filling that a sync would make now."""
+        contents = list(self._settled)
+        for block, content in self._pending:
+            contents[block] = content
+        return tuple(contents)
+
+    def left(self):
+        """Return the ascending list of all fillings that a cut may leave now."""
+        choices = self._choices()
+        check_listed(_product_of([len(choice) for choice in choices]))
+        found = [()]
+        for choice in choices:
+            found = [begun + (content,) for begun in found for content in choice]
+        return found
+
+    def may_leave(self, value):
+        """Tell whether any value is a filling that a cut may leave now."""
+        # The fillings are not listed here: they may be too many for left.
+        if not is_filling(self.disk, value):
+            return False
+        return all([content in choice for content, choice in zip(value, self._choices())])
+
+    def cut(self, filling):
+        """Cut the power, so that this filling is left."""
+        if not is_filling(self.disk, filling):
+            raise InvalidFilling(filling)
+        if not self.may_leave(filling):
+            raise NotLeft(filling)
+        self._settle(filling)
+
+    def _settle(self, filling):
+        self._settled = filling
+        self._pending = []
+
+    def _choices(self):
+        """Return for each block the ascending list of the contents that a cut may leave in it."""
+        found = [[content] for content in self._settled]
+        for block, content in self._pending:
+            if self.torn is True:
+                found[block] = list(range(self.disk.contents))
+            else:
+                found[block].append(content)
+        return [sorted(set(choice)) for choice in found]
+
+
+def _product_of(numbers):
+    found = 1
+    for number in numbers:
+        found = found * number
+    return found

@@ -1,0 +1,20 @@
+"""The limits that several modules share, and how a value is tested against them."""
+
+from leastspare.errors import TooMany
+
+MOST_BLOCKS = 24
+LEAST_CONTENTS = 2
+MOST_CONTENTS = 64
+MOST_LISTED = 20000
+
+
+def is_within(value, low, high):
+    """Tell whether a value is an integer from low to high."""
+    # True and False are of class int, too, but no integers here.
+    return isinstance(value, int) and not isinstance(value, bool) and low <= value <= high
+
+
+def check_listed(number):
+    """Raise TooMany for a number of fillings that is too great to list them."""
+    if number > MOST_LISTED:
+        raise TooMany(number)
