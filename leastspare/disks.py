@@ -2,6 +2,7 @@
 
 from leastspare.errors import InvalidBlock, InvalidBlocks, InvalidContent, InvalidContents
 from leastspare.errors import InvalidFilling, InvalidNumber, InvalidWrite
+from leastspare.figures import are_figures, figures_of, number_from, power
 from leastspare.limits import LEAST_CONTENTS, MOST_BLOCKS, MOST_CONTENTS, check_listed, is_within
 
 
@@ -22,10 +23,7 @@ class Disk:
 
 def count(disk):
     """Return the number of the fillings of a disk."""
-    found = 1
-    for _ in range(disk.blocks):
-        found = found * disk.contents
-    return found
+    return power(disk.contents, disk.blocks)
 
 
 def is_block(disk, value):
@@ -40,9 +38,7 @@ def is_content(disk, value):
 
 def is_filling(disk, value):
     """Tell whether any value is a filling of a disk."""
-    if not isinstance(value, tuple) or len(value) != disk.blocks:
-        return False
-    return all([is_content(disk, content) for content in value])
+    return are_figures(value, disk.blocks, disk.contents)
 
 
 def is_write(disk, value):
@@ -56,22 +52,14 @@ def number_of(disk, filling):
     """Return the number of a filling; block 0 has its highest figure."""
     if not is_filling(disk, filling):
         raise InvalidFilling(filling)
-    number = 0
-    for content in filling:
-        number = number * disk.contents + content
-    return number
+    return number_from(filling, disk.contents)
 
 
 def filling_at(disk, number):
     """Return the filling with this number."""
     if not is_within(number, 0, count(disk) - 1):
         raise InvalidNumber(number)
-    figures = []
-    rest = number
-    for _ in range(disk.blocks):
-        rest, figure = divmod(rest, disk.contents)
-        figures.append(figure)
-    return tuple(figures[::-1])
+    return figures_of(number, disk.blocks, disk.contents)
 
 
 def line(disk, filling, block):

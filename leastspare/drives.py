@@ -1,5 +1,6 @@
 """Drives: disks with writes that are pending until a sync, and what a cut may leave of them."""
 
+from leastspare.cuts import behind, choices_of, list_left, number_left
 from leastspare.disks import is_block, is_content, is_filling
 from leastspare.errors import InvalidBlock, InvalidContent, InvalidFilling, NotLeft
 from leastspare.limits import check_listed
@@ -40,19 +41,13 @@ class Drive:
 
     def filling(self):
         """Return the filling that a sync would make now."""
-        contents = list(self._settled)
-        for block, content in self._pending:
-            contents[block] = content
-        return tuple(contents)
+        return behind(self._settled, self._pending)
 
     def left(self):
         """Return the ascending list of all fillings that a cut may leave now."""
         choices = self._choices()
-        check_listed(_product_of([len(choice) for choice in choices]))
-        found = [()]
-        for choice in choices:
-            found = [begun + (content,) for begun in found for content in choice]
-        return found
+        check_listed(number_left(choices))
+        return list_left(choices)
 
     def may_leave(self, value):
         """Tell whether any value is a filling that a cut may leave now."""
@@ -74,18 +69,4 @@ class Drive:
         self._pending = []
 
     def _choices(self):
-        """Return for each block the ascending list of the contents that a cut may leave in it."""
-        found = [[content] for content in self._settled]
-        for block, content in self._pending:
-            if self.torn is True:
-                found[block] = list(range(self.disk.contents))
-            else:
-                found[block].append(content)
-        return [sorted(set(choice)) for choice in found]
-
-
-def _product_of(numbers):
-    found = 1
-    for number in numbers:
-        found = found * number
-    return found
+        return choices_of(self.disk, self._settled, self._pending, self.torn)

@@ -5,6 +5,7 @@ from leastspare.errors import TooMany
 MOST_BLOCKS = 24
 LEAST_CONTENTS = 2
 MOST_CONTENTS = 64
+MOST_VALUES = 64
 MOST_LISTED = 20000
 
 
@@ -14,7 +15,17 @@ def is_within(value, low, high):
     return isinstance(value, int) and not isinstance(value, bool) and low <= value <= high
 
 
+def is_list(value):
+    """Tell whether a value may stand where a list is expected: a tuple may, too."""
+    return isinstance(value, (list, tuple))
+
+
+def is_ascending(numbers):
+    """Tell whether each of these integers is greater than the one ahead of it."""
+    return all([one < other for one, other in zip(numbers, numbers[1:])])
+
+
 def check_listed(number):
-    """Raise TooMany for a number of fillings that is too great to list them."""
+    """Raise TooMany for a number of fillings or wishes that is too great to list them."""
     if number > MOST_LISTED:
         raise TooMany(number)

@@ -7,11 +7,20 @@ import unittest
 FUNCTIONS = {
     "leastspare.disks": """count(disk) is_filling(disk,value) number_of(disk,filling) filling_at(disk,number)
         line(disk,filling,block) all_lines(disk) written(disk,filling,write) class_of(disk,content)""",
+    "leastspare.layouts": """disk_of(layout) roles(layout) is_told(layout,value) is_wish(layout,value)
+        granted(layout,told,wish) distance(layout,one,other) wish_between(layout,one,other)
+        all_wishes(layout,told)""",
+    "leastspare.lots": """is_lot(layout,value) lots(layout) lot_at(layout,number) lot_number(layout,lot)
+        code_of(layout,lot) lot_told(layout,codes) lot_for(layout,wish)""",
+    "leastspare.plans": "read(layout,filling) plan(layout,filling,wish)",
 }
 METHODS = {
     ("leastspare.disks", "Disk"): "__init__(self,blocks,contents) __eq__(self,other)",
     ("leastspare.drives", "Drive"): """__init__(self,disk,filling,*,torn=True) write(self,block,content) sync(self)
         pending(self) settled(self) filling(self) left(self) may_leave(self,value) cut(self,filling)""",
+    ("leastspare.layouts", "Layout"): "__init__(self,records,changes,contents) __eq__(self,other)",
+    ("leastspare.stores", "Store"): """__init__(self,drive,layout) records(self) answered(self) under_way(self)
+        begin(self,wish) step(self) change(self,wish) cut(self,filling)""",
 }
 
 
