@@ -3,7 +3,7 @@
 from leastspare.errors import InvalidBlock, InvalidBlocks, InvalidContent, InvalidContents
 from leastspare.errors import InvalidFilling, InvalidNumber, InvalidWrite
 from leastspare.figures import are_figures, figures_of, number_from, power
-from leastspare.limits import LEAST_CONTENTS, MOST_BLOCKS, MOST_CONTENTS, check_listed, is_within
+from leastspare.limits import LEAST_CONTENTS, MOST_BLOCKS, MOST_CONTENTS, check_listed, is_pair, is_within
 
 
 class Disk:
@@ -43,9 +43,7 @@ def is_filling(disk, value):
 
 def is_write(disk, value):
     """Tell whether any value is a write (block, content) of a disk."""
-    if not isinstance(value, tuple) or len(value) != 2:
-        return False
-    return is_block(disk, value[0]) and is_content(disk, value[1])
+    return is_pair(value, disk.blocks, disk.contents)
 
 
 def number_of(disk, filling):

@@ -5,7 +5,8 @@ from math import comb
 from leastspare.disks import Disk
 from leastspare.errors import InvalidChanges, InvalidContents, InvalidRecords, InvalidTold, InvalidWish, TooFar
 from leastspare.figures import are_figures, power
-from leastspare.limits import LEAST_CONTENTS, MOST_CONTENTS, check_listed, is_ascending, is_list, is_within
+from leastspare.limits import LEAST_CONTENTS, MOST_CONTENTS
+from leastspare.limits import check_listed, is_ascending, is_list, is_pair, is_within
 
 MOST_RECORDS = 8
 
@@ -53,7 +54,7 @@ def is_wish(layout, value):
     """Tell whether any value is a wish."""
     if not is_list(value) or len(value) > layout.changes:
         return False
-    if not all([_is_item(layout, item) for item in value]):
+    if not all([is_pair(item, layout.records, layout.contents) for item in value]):
         return False
     return is_ascending([record for record, _ in value])
 
@@ -107,12 +108,6 @@ def _figures_needed(many, base):
     while power(base, figures) < many:
         figures += 1
     return figures
-
-
-def _is_item(layout, value):
-    if not isinstance(value, tuple) or len(value) != 2:
-        return False
-    return is_within(value[0], 0, layout.records - 1) and is_within(value[1], 0, layout.contents - 1)
 
 
 def _differing(layout, one, other):

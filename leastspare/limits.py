@@ -15,6 +15,13 @@ def is_within(value, low, high):
     return isinstance(value, int) and not isinstance(value, bool) and low <= value <= high
 
 
+def is_pair(value, ones, others):
+    """Tell whether any value is a tuple of two integers, one of so many ones and one of so many others."""
+    if not isinstance(value, tuple) or len(value) != 2:
+        return False
+    return is_within(value[0], 0, ones - 1) and is_within(value[1], 0, others - 1)
+
+
 def is_list(value):
     """Tell whether a value may stand where a list is expected: a tuple may, too."""
     return isinstance(value, (list, tuple))

@@ -13,6 +13,14 @@ FUNCTIONS = {
     "leastspare.lots": """is_lot(layout,value) lots(layout) lot_at(layout,number) lot_number(layout,lot)
         code_of(layout,lot) lot_told(layout,codes) lot_for(layout,wish)""",
     "leastspare.plans": "read(layout,filling) plan(layout,filling,wish)",
+    "leastspare.histories": """is_history(layout,value) could_be(layout,start,events) is_right(layout,start,events)
+        first_wrong(layout,start,events)""",
+    "leastspare.examiner": """left_by(disk,filling,groups,*,torn=True) examine(layout,filling,wish,*,torn=True)
+        first_other(layout,filling,wish,groups,*,torn=True)
+        is_done_by(layout,filling,wish,groups,*,torn=True)""",
+    "leastspare.books": """wishes_of(book,value) is_two_way(book) parts(book) any_to_any(count) star(leaves)
+        ring(count) row(count)""",
+    "leastspare.tables": "value_at(table,filling) book_of(layout) table_of(layout)",
 }
 METHODS = {
     ("leastspare.disks", "Disk"): "__init__(self,blocks,contents) __eq__(self,other)",
@@ -21,6 +29,8 @@ METHODS = {
     ("leastspare.layouts", "Layout"): "__init__(self,records,changes,contents) __eq__(self,other)",
     ("leastspare.stores", "Store"): """__init__(self,drive,layout) records(self) answered(self) under_way(self)
         begin(self,wish) step(self) change(self,wish) cut(self,filling)""",
+    ("leastspare.books", "Book"): "__init__(self,size,changes) __eq__(self,other)",
+    ("leastspare.tables", "Table"): "__init__(self,disk,entries) __eq__(self,other)",
 }
 
 
