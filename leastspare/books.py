@@ -1,6 +1,7 @@
 """Books: values and the changes between them that are asked for."""
 
 from leastspare.errors import InvalidCount, InvalidPairs, InvalidValue, InvalidValues
+from leastspare.joins import heads_of
 from leastspare.limits import MOST_VALUES, is_list, is_pair, is_within
 
 
@@ -33,12 +34,8 @@ def is_two_way(book):
 
 def parts(book):
     """Return the ascending list of the ascending lists of the values that hang together."""
-    # For each value the least one of those that the changes gone through so far join it to.
-    least = list(range(book.size))
-    for one, other in book.changes:
-        low, high = sorted([least[one], least[other]])
-        least = [low if joined == high else joined for joined in least]
-    return [[value for value in range(book.size) if least[value] == head] for head in sorted(set(least))]
+    heads = heads_of(book.size, book.changes)
+    return [[value for value in range(book.size) if heads[value] == head] for head in sorted(set(heads))]
 
 
 def any_to_any(count):

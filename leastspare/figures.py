@@ -34,3 +34,24 @@ def figures_of(number, length, base):
         rest, figure = divmod(rest, base)
         figures.append(figure)
     return tuple(figures[::-1])
+
+
+def figures_needed(many, base):
+    """Return the least number of figures to a base that tell so many things apart."""
+    figures = 0
+    told = 1
+    while told < many:
+        figures += 1
+        told = told * base
+    return figures
+
+
+def count_differing(length, most, base):
+    """Return how many tuples of so many figures to a base differ from a given one in one to `most` of them."""
+    found = 0
+    ways = 1
+    for many in range(1, most + 1):
+        # Of each set of places there is one more place to choose; each set is met once for each of its places.
+        ways = ways * (length - many + 1) * (base - 1) // many
+        found = found + ways
+    return found

@@ -4,7 +4,7 @@ from math import comb
 
 from leastspare.disks import Disk
 from leastspare.errors import InvalidChanges, InvalidContents, InvalidRecords, InvalidTold, InvalidWish, TooFar
-from leastspare.figures import are_figures, power
+from leastspare.figures import are_figures, count_differing, figures_needed
 from leastspare.limits import LEAST_CONTENTS, MOST_CONTENTS
 from leastspare.limits import check_listed, is_ascending, is_list, is_pair, is_within
 
@@ -24,7 +24,7 @@ class Layout:
         self.records = records
         self.changes = changes
         self.contents = contents
-        self.places = _figures_needed(comb(records, changes), contents)
+        self.places = figures_needed(comb(records, changes), contents)
         self.spare = changes + self.places + 1
 
     def __eq__(self, other):
@@ -93,21 +93,13 @@ def all_wishes(layout, told):
     """Return the ascending list of all wishes that change each of their records, and at least one."""
     if not is_told(layout, told):
         raise InvalidTold(told)
-    check_listed(_count_wishes(layout))
+    check_listed(count_differing(layout.records, layout.changes, layout.contents))
     found = [[]]
     for record in range(layout.records):
         others = [content for content in range(layout.contents) if content != told[record]]
         begun = [wish for wish in found if len(wish) < layout.changes]
         found = found + [wish + [(record, content)] for wish in begun for content in others]
     return sorted(found)[1:]
-
-
-def _figures_needed(many, base):
-    """Return the least number of figures to a base that tell so many things apart."""
-    figures = 0
-    while power(base, figures) < many:
-        figures += 1
-    return figures
 
 
 def _differing(layout, one, other):
@@ -117,8 +109,3 @@ def _differing(layout, one, other):
     if not is_told(layout, other):
         raise InvalidTold(other)
     return [(record, other[record]) for record in range(layout.records) if one[record] != other[record]]
-
-
-def _count_wishes(layout):
-    ways = [comb(layout.records, size) * power(layout.contents - 1, size) for size in range(1, layout.changes + 1)]
-    return sum(ways)

@@ -21,7 +21,8 @@ BARRED = (
 )
 
 # L2: what is taken from the library.
-LIBRARY = {"math": {"gcd", "lcm", "isqrt", "comb"}, "itertools": {"product", "combinations", "permutations"}}
+LIBRARY = {"math": {"gcd", "lcm", "isqrt", "comb"}, "itertools": {"product", "combinations", "permutations"},
+           "heapq": {"heapify", "heappop", "heappush"}}
 
 # L25, without those of bytes.
 METHODS = """append clear copy count endswith extend find get index insert isalnum isalpha isdigit islower isspace

@@ -21,6 +21,15 @@ FUNCTIONS = {
     "leastspare.books": """wishes_of(book,value) is_two_way(book) parts(book) any_to_any(count) star(leaves)
         ring(count) row(count)""",
     "leastspare.tables": "value_at(table,filling) book_of(layout) table_of(layout)",
+    "leastspare.judge": """safe(table,book,*,torn=True) keeps(table,book,*,torn=True) struck(table,book,*,torn=True)
+        refutation(table,book,*,torn=True) is_refutation(table,book,value,*,torn=True)
+        way(table,book,number,other,*,torn=True) is_way(table,book,number,other,value,*,torn=True)""",
+    "leastspare.writers": """is_run(table,book,writer,start,value) breaks(table,book,writer,start,value)
+        breaking_run(table,book,writer,start) writer_for(table,book)""",
+    "leastspare.counting": """wishes(records,changes,contents) least_needed(records,changes,contents)
+        enough(records,changes,contents) is_above(records,changes,contents) line_count(disk) most_values(disk)
+        pair_lines(table,book) own_lines(table)""",
+    "leastspare.twoblocks": "shape_of(book) two_blocks(book,contents) tables_of_two(shape,contents)",
 }
 METHODS = {
     ("leastspare.disks", "Disk"): "__init__(self,blocks,contents) __eq__(self,other)",
@@ -31,6 +40,7 @@ METHODS = {
         begin(self,wish) step(self) change(self,wish) cut(self,filling)""",
     ("leastspare.books", "Book"): "__init__(self,size,changes) __eq__(self,other)",
     ("leastspare.tables", "Table"): "__init__(self,disk,entries) __eq__(self,other)",
+    ("leastspare.writers", "Writer"): "__init__(self,disk,size,memories,rules) __eq__(self,other)",
 }
 
 
