@@ -20,6 +20,16 @@ def choices_of(disk, settled, writes, torn):
     return [sorted(set(choice)) for choice in found]
 
 
+def behind_all(filling, groups):
+    """Return the filling behind all groups of writes."""
+    return behind(filling, [write for group in groups for write in group])
+
+
+def is_left(choices, filling):
+    """Tell whether a filling has one of its choices in each block."""
+    return all([content in choice for content, choice in zip(filling, choices)])
+
+
 def number_left(choices):
     """Return the number of the fillings that have one of its choices in each block."""
     found = 1

@@ -60,6 +60,12 @@ def filling_at(disk, number):
     return figures_of(number, disk.blocks, disk.contents)
 
 
+def all_fillings(disk):
+    """Return the ascending list of all fillings of a disk."""
+    check_listed(count(disk))
+    return [filling_at(disk, number) for number in range(count(disk))]
+
+
 def line(disk, filling, block):
     """Return the ascending fillings of the line of a block through a filling."""
     if not is_filling(disk, filling):
@@ -71,10 +77,8 @@ def line(disk, filling, block):
 
 def all_lines(disk):
     """Return the ascending list of all lines of a disk."""
-    check_listed(count(disk))
     found = []
-    for number in range(count(disk)):
-        filling = filling_at(disk, number)
+    for filling in all_fillings(disk):
         # A line is met at its least filling, which has 0 in the line's block. Of the lines
         # that begin there, the one of the last block goes on with the least filling.
         for block in reversed(range(disk.blocks)):

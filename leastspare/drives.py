@@ -1,6 +1,6 @@
 """Drives: disks with writes that are pending until a sync, and what a cut may leave of them."""
 
-from leastspare.cuts import behind, choices_of, list_left, number_left
+from leastspare.cuts import behind, choices_of, is_left, list_left, number_left
 from leastspare.disks import is_block, is_content, is_filling
 from leastspare.errors import InvalidBlock, InvalidContent, InvalidFilling, NotLeft
 from leastspare.limits import check_listed
@@ -54,7 +54,7 @@ class Drive:
         # The fillings are not listed here: they may be too many for left.
         if not is_filling(self.disk, value):
             return False
-        return all([content in choice for content, choice in zip(value, self._choices())])
+        return is_left(self._choices(), value)
 
     def cut(self, filling):
         """Cut the power, so that this filling is left."""

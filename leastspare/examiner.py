@@ -1,6 +1,6 @@
 """An examiner of all cuts: what they leave while groups of writes are done, and how it reads."""
 
-from leastspare.cuts import behind, choices_of, list_left, number_left
+from leastspare.cuts import behind, behind_all, choices_of, is_left, list_left, number_left
 from leastspare.disks import is_filling, is_write
 from leastspare.errors import InvalidFilling, InvalidGroups, InvalidWish
 from leastspare.layouts import disk_of, is_wish, with_wish
@@ -46,10 +46,12 @@ def is_done_by(layout, filling, wish, groups, *, torn=True):
     """Tell whether these groups do the wish, whatever is cut."""
     if first_other(layout, filling, wish, groups, torn=torn) is not None:
         return False
-    last = filling
-    for group in groups:
-        last = behind(last, group)
-    return read(layout, last) == with_wish(read(layout, filling), wish)
+    return read(layout, behind_all(filling, groups)) == with_wish(read(layout, filling), wish)
+
+
+def may_leave(disk, filling, groups, value, torn):
+    """Tell whether a filling of a disk is one that left_by lists, also where these are too many to list them."""
+    return value == filling or any([is_left(choices, value) for choices in _choices_in(disk, filling, groups, torn)])
 
 
 def is_row_of_groups(disk, value):
@@ -81,13 +83,19 @@ def _check_handed(layout, filling, wish, groups):
 
 def _list_moments(disk, filling, groups, torn):
     """Return what left_by does, of what is known to be right."""
+    rows = _choices_in(disk, filling, groups, torn)
+    check_listed(sum([number_left(choices) for choices in rows]))
+    found = [left for choices in rows for left in list_left(choices)]
+    # Without groups there is still the moment ahead of them.
+    return sorted(set([filling] + found))
+
+
+def _choices_in(disk, filling, groups, torn):
+    """Return for each group the choices that a cut has in each block at the group's last moment."""
     rows = []
     now = filling
     for group in groups:
         # What a cut may leave grows with each write of a group, so all moments of the group are in its last one.
         rows.append(choices_of(disk, now, group, torn))
         now = behind(now, group)
-    check_listed(sum([number_left(choices) for choices in rows]))
-    found = [left for choices in rows for left in list_left(choices)]
-    # Without groups there is still the moment ahead of them.
-    return sorted(set([filling] + found))
+    return rows

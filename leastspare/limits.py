@@ -27,6 +27,13 @@ def is_list(value):
     return isinstance(value, (list, tuple))
 
 
+def are_entries(value, length):
+    """Tell whether any value is a list of so many items, each None or one of the values that there may be."""
+    if not is_list(value) or len(value) != length:
+        return False
+    return all([entry is None or is_within(entry, 0, MOST_VALUES - 1) for entry in value])
+
+
 def is_ascending(numbers):
     """Tell whether each of these integers is greater than the one ahead of it."""
     return all([one < other for one, other in zip(numbers, numbers[1:])])

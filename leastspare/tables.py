@@ -1,11 +1,11 @@
 """Tables: a value, or none, for each filling of a disk."""
 
 from leastspare.books import Book
-from leastspare.disks import count, filling_at, number_of
+from leastspare.disks import all_fillings, count, number_of
 from leastspare.errors import InvalidValues, TooMany
 from leastspare.figures import figures_of, number_from, power
 from leastspare.layouts import disk_of, distance
-from leastspare.limits import MOST_VALUES, check_listed, is_list, is_within
+from leastspare.limits import MOST_VALUES, are_entries, check_listed
 from leastspare.plans import read
 
 
@@ -14,7 +14,7 @@ class Table:
 
     def __init__(self, disk, entries):
         check_listed(count(disk))
-        if not _are_entries(entries, count(disk)):
+        if not are_entries(entries, count(disk)):
             raise InvalidValues(entries)
         self.disk = disk
         self.entries = tuple(entries)
@@ -41,15 +41,7 @@ def table_of(layout):
     """Return the Table that tells for each filling of a layout's disk the number of what is read."""
     _count_values(layout)
     disk = disk_of(layout)
-    check_listed(count(disk))
-    fillings = [filling_at(disk, number) for number in range(count(disk))]
-    return Table(disk, [number_from(read(layout, filling), layout.contents) for filling in fillings])
-
-
-def _are_entries(value, length):
-    if not is_list(value) or len(value) != length:
-        return False
-    return all([entry is None or is_within(entry, 0, MOST_VALUES - 1) for entry in value])
+    return Table(disk, [number_from(read(layout, filling), layout.contents) for filling in all_fillings(disk)])
 
 
 def _count_values(layout):

@@ -1,7 +1,7 @@
 """Two blocks: which books a table of them keeps, these tables, and how many there are."""
 
 from leastspare.books import is_two_way, parts, wishes_of
-from leastspare.disks import Disk, class_of, count, filling_at
+from leastspare.disks import Disk, all_fillings, class_of
 from leastspare.errors import InvalidState, NotKept
 from leastspare.figures import power
 from leastspare.tables import Table
@@ -27,7 +27,7 @@ def two_blocks(book, contents):
     shape = shape_of(book)
     if shape is None or shape[0] == "star" and len(shape[2]) > contents:
         raise NotKept("shape")
-    return Table(disk, [_value_by(disk, shape, filling_at(disk, number)) for number in range(count(disk))])
+    return Table(disk, [_value_by(disk, shape, filling) for filling in all_fillings(disk)])
 
 
 def tables_of_two(shape, contents):

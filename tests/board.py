@@ -117,13 +117,13 @@ def tables_on(disk, seed):
     fillings = list(product(range(disk.contents), repeat=disk.blocks))
     half, numbers = disk.contents // 2, fixed_numbers(seed)
     kinds = [
-        [figure([content >= half for content in filling], 2) for filling in fillings],
+        [figure([content >= half for content in filling], 2) % 60 for filling in fillings],
         [filling[0] + 1 if filling[-1] else 0 for filling in fillings],
         [filling[0] + 1 if filling[-1] >= half else 0 for filling in fillings],
         [(1 + filling[-2] if filling[-1] >= half else filling[0]) if disk.blocks > 1 else filling[0]
          for filling in fillings],
         [filling[0] for filling in fillings],
-        [figure(filling[:2], disk.contents) for filling in fillings],
+        [figure(filling[:2], disk.contents) % 60 for filling in fillings],
         [sum(filling) % 2 for filling in fillings],
         [sum(filling) % 3 for filling in fillings],
         [sum(filling) % disk.contents for filling in fillings],

@@ -82,3 +82,17 @@ def left_of(contents, filling, writes, torn):
         made = [other for at, other in writes if at == block]
         choices.append(sorted({content, *made}) if not torn or not made else range(contents))
     return list(product(*choices))
+
+
+def moments(disk, filling, groups, torn):
+    """All fillings that a cut may leave ahead of the first write, behind each write, and behind each sync."""
+    found = {filling}
+    settled = filling
+    for group in groups:
+        for many in range(1, len(group) + 1):
+            found.update(left_of(disk.contents, settled, group[:many], torn))
+        contents = dict(enumerate(settled))
+        contents.update(group)
+        settled = tuple(contents[block] for block in range(disk.blocks))
+        found.add(settled)
+    return sorted(found)

@@ -8,7 +8,7 @@ from leastspare.errors import InvalidFilling, InvalidGroups, InvalidWish
 from leastspare.examiner import examine, first_other, is_done_by, left_by
 from leastspare.layouts import Layout
 from leastspare.plans import plan, read
-from tests.model import Model, left_of
+from tests.model import Model, moments
 from tests.support import NO_INTEGERS, all_fillings, fixed_numbers, no_fillings, no_lists, raises, raises_too_many
 
 # For a disk of three blocks with three contents, from (1, 0, 2): no groups, empty ones, blocks written several
@@ -28,20 +28,6 @@ NO_GROUPS = no_lists() + [
     [None], [0], ["01"], [{}], [[{}]], [[None]], [[((0, 1),)]], [[[(0, 1)]]], [[(0, 1)], [(0, 1), (10 ** 60, 0)]],
     *[[[(value, 0)]] for value in NO_INTEGERS], *[[[(0, value)]] for value in NO_INTEGERS],
 ]
-
-
-def moments(disk, filling, groups, torn):
-    """All fillings that a cut may leave ahead of the first write, behind each write, and behind each sync."""
-    found = {filling}
-    settled = filling
-    for group in groups:
-        for many in range(1, len(group) + 1):
-            found.update(left_of(disk.contents, settled, group[:many], torn))
-        contents = dict(enumerate(settled))
-        contents.update(group)
-        settled = tuple(contents[block] for block in range(disk.blocks))
-        found.add(settled)
-    return sorted(found)
 
 
 class Examples(unittest.TestCase):

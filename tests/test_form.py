@@ -16,7 +16,7 @@ OverflowError RuntimeError NotImplementedError AttributeError StopIteration NotI
 # L6 and L7. Some of these are allowed in few places, but none is needed here; so no rule of theirs is judged.
 BARRED = (
     ast.AsyncFunctionDef, ast.AsyncFor, ast.AsyncWith, ast.Await, ast.Global, ast.Import, ast.Div, ast.MatMult,
-    ast.Try, ast.With, ast.Yield, ast.YieldFrom, ast.GeneratorExp, ast.Lambda, ast.Match, ast.NamedExpr, ast.Starred,
+    ast.With, ast.Yield, ast.YieldFrom, ast.GeneratorExp, ast.Lambda, ast.Match, ast.NamedExpr, ast.Starred,
     ast.AnnAssign, ast.Nonlocal, ast.Delete,
 )
 
@@ -147,6 +147,22 @@ class Form(unittest.TestCase):
             # L4, L5: no decorator stands over a class, nor, here, over a function.
             if isinstance(node, (ast.FunctionDef, ast.ClassDef)):
                 self.assertEqual(node.decorator_list, [], (name, node.name))
+
+    def test_what_is_caught(self):
+        # L19: an own error, by its name, and nothing more stands in such a statement.
+        own = {row.name for row in trees()["errors.py"].body if isinstance(row, ast.ClassDef)}
+        for name, node in nodes():
+            if isinstance(node, ast.Try):
+                self.assertEqual((len(node.body), node.orelse, node.finalbody), (1, [], []), name)
+                self.assertLessEqual({handler.type.id for handler in node.handlers}, own, name)
+
+    def test_what_is_raised(self):
+        # L19: an own error, made on the spot.
+        own = {row.name for row in trees()["errors.py"].body if isinstance(row, ast.ClassDef)}
+        for name, node in nodes():
+            if isinstance(node, ast.Raise):
+                self.assertTrue(is_call_of(node.exc, *own), (name, node.lineno))
+                self.assertIsNone(node.cause, name)
 
     def test_exponents(self):
         # L27: no variable exponent.

@@ -30,6 +30,12 @@ FUNCTIONS = {
         enough(records,changes,contents) is_above(records,changes,contents) line_count(disk) most_values(disk)
         pair_lines(table,book) own_lines(table)""",
     "leastspare.twoblocks": "shape_of(book) two_blocks(book,contents) tables_of_two(shape,contents)",
+    "leastspare.anytoany": """copies_table(half,contents) greatest_any(blocks,contents) any_table(blocks,contents)
+        by_classes(table,contents)""",
+    "leastspare.webs": """web_of(disk) homes(web,values) safe_homes(web,values,book) web_keeps(web,values,book)
+        web_rings(web) book_rings(book) ring_values(web,states,count) ball() ball_values()""",
+    "leastspare.sessions": """play(names,changes,contents,lines,*,torn=True)
+        history_of(names,changes,contents,lines,*,torn=True)""",
 }
 METHODS = {
     ("leastspare.disks", "Disk"): "__init__(self,blocks,contents) __eq__(self,other)",
@@ -41,6 +47,11 @@ METHODS = {
     ("leastspare.books", "Book"): "__init__(self,size,changes) __eq__(self,other)",
     ("leastspare.tables", "Table"): "__init__(self,disk,entries) __eq__(self,other)",
     ("leastspare.writers", "Writer"): "__init__(self,disk,size,memories,rules) __eq__(self,other)",
+    ("leastspare.webs", "Web"): "__init__(self,states,steps) __eq__(self,other)",
+    ("leastspare.sessions", "Session"): "__init__(self,names,changes,contents,*,torn=True) do(self,line)",
+    ("leastspare.desk", "Desk"): """__init__(self,layout,*,torn=True) filling(self) told(self) due(self)
+        wish(self,wish) cut_in(self,wish,number) by_hand(self,wish,groups,number) is_broken(self) undo(self)
+        redo(self) deeds(self) hint(self,wish,groups)""",
 }
 
 
