@@ -59,10 +59,9 @@ def pair_lines(table, book):
     """Return the dict that has for each two values with a change, as a text, the number of lines of just these."""
     found = {tuple(sorted(change)): 0 for change in book.changes}
     for kinds in _kinds_by_line(table):
-        if len(kinds) == 2 and None not in kinds:
-            pair = tuple(sorted(kinds))
-            if pair in found:
-                found[pair] += 1
+        pair = () if None in kinds else tuple(sorted(kinds))
+        if pair in found:
+            found[pair] += 1
     return {f"{one} {other}": found[one, other] for one, other in found}
 
 

@@ -112,8 +112,7 @@ class Desk:
 
 def _copy_of(deed):
     """Return a deed with new lists."""
-    if deed[0] == "wish":
-        return ("wish", list(deed[1]))
-    if deed[0] == "cut_in":
-        return ("cut_in", list(deed[1]), deed[2])
-    return ("by_hand", list(deed[1]), [list(group) for group in deed[2]], deed[3])
+    word, wish = deed[0], list(deed[1])
+    if word == "by_hand":
+        return (word, wish, [list(group) for group in deed[2]], deed[3])
+    return (word, wish) + deed[2:]

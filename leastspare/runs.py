@@ -22,7 +22,7 @@ class Run:
 
     def may_follow(self, event):
         """Tell whether any value is an event that may come next."""
-        if not isinstance(event, tuple) or len(event) == 0:
+        if not isinstance(event, tuple):
             return False
         if self._change is None:
             return len(event) == 2 and event[0] == "wish" and self._may_be_wished(event[1])
@@ -76,7 +76,7 @@ class Search:
     """A search for a run that breaks a writer.
 
     It goes through points: (number, memory) between wishes, (number, memory, old value, wished value) within one.
-    A run to a point that was come to first has none of them twice, so it is never too long.
+    Only the way by which a point was first come to is kept. It meets no point twice, so no run gets too long.
     """
 
     def __init__(self, table, book, writer, start):

@@ -49,11 +49,11 @@ def _star_of(near):
 
 
 def _row_of(near):
-    """Return the row of values that have no ring among them, or None if they are not four in a row."""
-    ends = [value for value, others in enumerate(near) if len(others) == 1]
-    if len(near) != 4 or len(ends) != 2:
+    """Return the row of values that have no ring among them and make no star, or None if they are not four."""
+    if len(near) != 4:
         return None
-    return ("row", _from(near, ends[0], near[ends[0]][0]))
+    end = min([value for value, others in enumerate(near) if len(others) == 1])
+    return ("row", _from(near, end, near[end][0]))
 
 
 def _ring_of(near):

@@ -192,27 +192,21 @@ class Writers(unittest.TestCase):
                     Writer(Disk(1, 2), 1, value, [])
 
     def test_the_product(self):
-        # 2 * 2 * 2 * 2 * 5 * 5 * 5 * 5 * 2 is 20000.
-        for disk, size, memories in [(Disk(4, 5), 32, 1), (Disk(4, 5), 1, 32), (Disk(4, 5), 8, 4), (Disk(5, 5), 3, 2),
-                                     (Disk(1, 5), 64, 62), (Disk(1, 50), 20, 20), (Disk(1, 20), 25, 40),
-                                     (Disk(13, 2), 2, 1), (Disk(9, 3), 1, 1)]:
+        for disk, size, memories in [(Disk(4, 5), 32, 1), (Disk(4, 5), 1, 32), (Disk(4, 5), 8, 4), (Disk(1, 50), 20, 20),
+                                     (Disk(2, 25), 1, 32), (Disk(1, 10), 50, 40)]:
             many = disk.contents ** disk.blocks
-            self.assertLessEqual(many * size * memories, 20000)
+            self.assertEqual(many * size * memories, 20000)
             writer = Writer(disk, size, memories, self.rules(many, size, memories, (0, 1, 0)))
             self.assertEqual(len(writer.rules), many)
-        for disk, size, memories in [(Disk(4, 5), 33, 1), (Disk(1, 59), 1, 339), (Disk(2, 4), 50, 26),
-                                     (Disk(1, 3), 59, 64), (Disk(1, 7), 64, 45), (Disk(15, 2), 1, 1),
-                                     (Disk(9, 3), 2, 1), (Disk(1, 59), 17, 20)]:
-            if memories <= 64:
-                many = disk.contents ** disk.blocks
-                if many * size * memories > 20000:
-                    for rules in (None, self.rules(3, size, memories)):
-                        with raises_too_many(self, many * size * memories):
-                            Writer(disk, size, memories, rules)
-        # 20001 is 3 * 59 * 113, so no product; 20008 is 8 * 41 * 61, and 20002 is 2 * 73 * 137.
-        for disk, size, memories in [(Disk(1, 8), 41, 61), (Disk(3, 2), 61, 41), (Disk(1, 61), 8, 41)]:
-            with raises_too_many(self, 20008):
-                Writer(disk, size, memories, [])
+        # No product of such numbers is 20001 to 20006: these have prime factors above 64.
+        for disk, size, memories in [(Disk(4, 3), 13, 19), (Disk(1, 27), 39, 19), (Disk(1, 57), 13, 27)]:
+            for rules in (None, [], self.rules(disk.contents ** disk.blocks, size, memories)):
+                with raises_too_many(self, 20007):
+                    Writer(disk, size, memories, rules)
+        for disk, size, memories in [(Disk(15, 2), 1, 1), (Disk(9, 3), 2, 1), (Disk(9, 3), 1, 2), (Disk(1, 8), 41, 61),
+                                     (Disk(1, 64), 64, 64), (Disk(4, 5), 33, 1), (Disk(4, 5), 1, 33)]:
+            with raises_too_many(self, disk.contents ** disk.blocks * size * memories):
+                Writer(disk, size, memories, None)
 
     def test_rules_spoilt_at_every_depth(self):
         disk, good = Disk(2, 2), self.rules(4, 2, 3, (1, 0, 2))
@@ -431,6 +425,12 @@ class Runs(unittest.TestCase):
             if not isinstance(start, int) or isinstance(start, bool) or start not in (0, 1):
                 with self.subTest(start), raises(self, InvalidNumber, "given", start):
                     breaking_run(table, book, small, start)
+        # The last filling has a value of the book; still -1 is no number.
+        direct = Writer(Disk(1, 3), 3, 1, DIRECT)
+        for call, more in [(breaking_run, []), (is_run, [[]]), (breaks, [[]])]:
+            for start in (-1, -3, 3):
+                with raises(self, InvalidNumber, "given", start):
+                    call(ONE, ANY_3, direct, start, *more)
         great = Writer(Disk(1, 4), 3, 1, [[[None]] * 3] * 4)
         self.assertIs(is_run(table, book, great, 0, [("wish", 1), ("done",)]), True)
 
@@ -653,7 +653,8 @@ class GoodWriters(unittest.TestCase):
             for start in safe(table, book)[:3]:
                 self.assertIsNone(breaking_run(table, book, writer, start))
         for table, book in [(Table(Disk(14, 2), [0] * 16384), Book(2, [])), (Table(Disk(4, 5), [0] * 625), any_to_any(33)),
-                            (Table(Disk(13, 2), [None] * 8192), any_to_any(3)), (Table(Disk(9, 3), [0] * 19683), row(64))]:
+                            (Table(Disk(13, 2), [None] * 8192), any_to_any(3)), (Table(Disk(9, 3), [0] * 19683), row(64)),
+                            (Table(Disk(2, 64), [0] * 4096), any_to_any(64))]:
             with raises_too_many(self, len(table.entries) * book.size):
                 writer_for(table, book)
 
